@@ -1,0 +1,1 @@
+"""Tidehall: skies."""
