@@ -4,14 +4,20 @@ from tideskies.judge import judge
 from tideskies.lines import ANGLE
 from tideskies.printer import printed_lines
 from tideskies.reader import read_lines
-from tideskies.refusals import NoSky, NotThere
+from tideskies.refusals import NoSky, NotThere, OutOfRange
+from tideskies.standing import are_apart, factor_of, places_of, speed_of
+from tideskies.waves import waves_of
+
+FIRST_MINUTE = -2147483648
+LAST_MINUTE = 2147483647
+MOST_PLACES = 256
 
 
 class Sky:
     def __init__(self, lines):
         self.angles = [line for line in lines if line.word == ANGLE]
-        self.waves = [line for line in lines if line.word != ANGLE]
-        self.numbers = dict([(line.name, k) for k, line in enumerate(self.waves)])
+        self.waves = waves_of(lines)
+        self.numbers = dict([(wave.name, k) for k, wave in enumerate(self.waves)])
         # Kept, as one sky may be printed some hundred times.
         self.printed = printed_lines(lines)
 
@@ -42,3 +48,31 @@ class Holder:
         if tuple(name) not in numbers:
             raise NotThere()
         return numbers[tuple(name)]
+
+    def speed(self, number):
+        return speed_of(self.wave(number))
+
+    # The place, then the factor.
+    def place_and_factor(self, number, minute, steady_minute):
+        wave = self.wave(number)
+        need_minute(minute)
+        need_minute(steady_minute)
+        return places_of(wave, minute, 1, steady_minute) + [factor_of(wave, steady_minute)]
+
+    def places(self, number, minute, steady_minute, many):
+        wave = self.wave(number)
+        need_minute(minute)
+        need_minute(steady_minute)
+        if many > MOST_PLACES:
+            raise OutOfRange()
+        if many > 0:
+            need_minute(minute + many - 1)
+        return places_of(wave, minute, many, steady_minute)
+
+    def can_be_told_apart(self, number, other, minutes):
+        return are_apart(self.wave(number), self.wave(other), minutes)
+
+
+def need_minute(minute):
+    if minute < FIRST_MINUTE or minute > LAST_MINUTE:
+        raise OutOfRange()

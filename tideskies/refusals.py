@@ -7,6 +7,11 @@ TOO_MANY = 4
 TOO_LARGE = 5
 
 
+# -1: a minute is none, or a row is too long.
+class OutOfRange(Exception):
+    pass
+
+
 # -3: a sky is asked for while there is none.
 class NoSky(Exception):
     pass

@@ -1,13 +1,20 @@
 """Answers calls on one sky."""
 
 from tideskies.holder import Holder
-from tideskies.refusals import AtFault, NoSky, NotThere
+from tideskies.refusals import AtFault, NoSky, NotThere, OutOfRange
 
 SKY = 0
 PRINT = 1
 SIZE = 2
 NAME = 3
 FIND = 4
+SPEED = 5
+PLACE = 6
+ROW = 7
+APART = 8
+
+# How many whole numbers stand behind each call's number, before its row if it has one.
+WHOLE_NUMBERS = (0, 0, 0, 1, 0, 1, 3, 4, 3)
 
 
 # behind: the place in the list behind the call's last number.
@@ -35,7 +42,7 @@ def answers(calls):
 # A call is read to its end before it is answered, as a refused one is passed over whole, too.
 def read_call(calls, place):
     number = calls[place]
-    behind = place + 1 + whole_numbers_of(number)
+    behind = place + 1 + WHOLE_NUMBERS[number]
     given = calls[place + 1:behind]
     row = []
     if number in (SKY, FIND):
@@ -45,16 +52,11 @@ def read_call(calls, place):
     return Call(number, given, row, behind)
 
 
-# How many whole numbers stand behind a call's number, before its row if it has one.
-def whole_numbers_of(number):
-    if number not in (SKY, PRINT, SIZE, NAME, FIND):
-        raise ValueError(f"no call has the number {number}")
-    return 1 if number == NAME else 0
-
-
 def answer_or_refusal(holder, call):
     try:
         return answer_to(holder, call)
+    except OutOfRange:
+        return [-1]
     except NoSky:
         return [-3]
     except NotThere:
@@ -74,7 +76,20 @@ def answer_to(holder, call):
         return [0, len(sky.angles), len(sky.waves)]
     if call.number == NAME:
         return counted(holder.wave(call.given[0]).name)
-    return [holder.wave_number(call.row)]
+    if call.number == FIND:
+        return [holder.wave_number(call.row)]
+    return answer_of_time(holder, call.number, call.given)
+
+
+# The calls about how waves go with time.
+def answer_of_time(holder, number, given):
+    if number == SPEED:
+        return [0] + holder.speed(given[0])
+    if number == PLACE:
+        return [0] + holder.place_and_factor(given[0], given[1], given[2])
+    if number == ROW:
+        return counted(holder.places(given[0], given[1], given[2], given[3]))
+    return [1 if holder.can_be_told_apart(given[0], given[1], given[2]) else 0]
 
 
 def counted(row):
